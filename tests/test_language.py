@@ -1,0 +1,118 @@
+"""The rules of LANGUAGE.md that can be seen in the package's files, as far as this program needs them."""
+
+import ast
+import re
+import unittest
+from pathlib import Path
+
+PACKAGE = Path(__file__).resolve().parent.parent / "tworooms"
+
+NODES = set("""
+    Module FunctionDef ClassDef arguments arg Return Assign AugAssign If While For Break Continue Pass Raise Try
+    ExceptHandler Expr Import ImportFrom alias Constant Name Load Store Attribute Subscript Slice Call keyword List
+    Tuple Dict ListComp comprehension BinOp UnaryOp BoolOp Compare IfExp Lambda JoinedStr FormattedValue
+    Add Sub Mult FloorDiv Mod Pow BitAnd BitOr BitXor LShift RShift Invert USub Not And Or
+    Eq NotEq Lt LtE Gt GtE In NotIn Is IsNot
+""".split())
+
+BUILTINS = set("""
+    len range enumerate zip min max sum abs sorted reversed int str bool list tuple dict set frozenset isinstance ord
+    repr any all divmod Exception ValueError TypeError KeyError IndexError LookupError ZeroDivisionError
+    ArithmeticError OverflowError RuntimeError NotImplementedError AttributeError StopIteration
+""".split())
+
+METHODS = set("""
+    append clear copy count endswith extend find get index insert isalnum isalpha isdigit islower isspace isupper
+    items join keys ljust lower lstrip partition pop remove replace reverse rfind rjust rpartition rsplit rstrip
+    setdefault split splitlines startswith strip update upper values zfill bit_length
+""".split())
+
+WORDS = set("""
+    type typing typing_extensions enum Enum IntEnum StrEnum Flag IntFlag Generic Protocol ABC ABCMeta namedtuple
+    NamedTuple TypedDict TYPE_CHECKING abstractmethod register mro elements open input version_info with_traceback
+    add_note getattr setattr hasattr delattr globals locals vars dir eval exec compile super id
+""".split())
+
+TWO_UNDERSCORES = {"__init__", "__eq__", "__repr__", "__str__", "__len__"}
+
+
+def sources():
+    return {path.name: path.read_text(encoding="utf-8") for path in sorted(PACKAGE.glob("*.py"))}
+
+
+def nodes(source, *kinds):
+    return [node for node in ast.walk(ast.parse(source)) if isinstance(node, kinds)]
+
+
+def bound_names(source):
+    """Every name that a file binds: functions, classes, parameters, variables and values of objects."""
+    names = [node.name for node in nodes(source, ast.FunctionDef, ast.ClassDef)]
+    names += [node.arg for node in nodes(source, ast.arg)]
+    names += [node.id for node in nodes(source, ast.Name) if isinstance(node.ctx, ast.Store)]
+    names += [node.attr for node in nodes(source, ast.Attribute) if isinstance(node.ctx, ast.Store)]
+    return set(names)
+
+
+class Language(unittest.TestCase):
+    def test_files(self):
+        found = [path.name for path in PACKAGE.iterdir() if path.name != "__pycache__"]
+        self.assertIn("__init__.py", found)
+        self.assertIn("cache.py", found)
+        for name in found:
+            self.assertRegex(name, r"^(__init__|[a-z][a-z0-9_]*)\.py$")
+
+    def test_size_and_signs(self):
+        for name, source in sources().items():
+            with self.subTest(file=name):
+                self.assertRegex(source, r"\A[\n -~]*\Z")
+                lines = source.split("\n")
+                self.assertLessEqual(len(lines), 400)
+                self.assertLessEqual(max(len(line) for line in lines), 120)
+                for node in nodes(source, ast.FunctionDef):
+                    self.assertLessEqual(node.end_lineno - node.lineno + 1, 40, node.name)
+
+    def test_statements_and_expressions(self):
+        for name, source in sources().items():
+            with self.subTest(file=name):
+                self.assertEqual({type(node).__name__ for node in nodes(source, ast.AST)} - NODES, set())
+                for node in nodes(source, ast.Assign):
+                    self.assertEqual(len(node.targets), 1)
+                for node in nodes(source, ast.FunctionDef, ast.ClassDef):
+                    self.assertEqual(node.decorator_list, [])
+                for node in nodes(source, ast.arguments):
+                    self.assertEqual((node.vararg, node.kwarg, node.kwonlyargs, node.posonlyargs), (None, None, [], []))
+                for node in nodes(source, ast.Constant):
+                    self.assertIn(type(node.value), (int, str, bool, type(None)))
+                for node in nodes(source, ast.While, ast.For):
+                    self.assertEqual(node.orelse, [])
+
+    def test_nothing_is_imported(self):
+        for name, source in sources().items():
+            with self.subTest(file=name):
+                self.assertEqual(nodes(source, ast.Import, ast.ImportFrom), [])
+
+    def test_names(self):
+        for name, source in sources().items():
+            with self.subTest(file=name):
+                bound = bound_names(source)
+                for word in bound - TWO_UNDERSCORES:
+                    self.assertRegex(word, r"^[A-Za-z][A-Za-z0-9_]*$")
+                self.assertEqual(bound & BUILTINS, set())
+                read = {node.id for node in nodes(source, ast.Name)}
+                self.assertEqual(read - bound - BUILTINS, set())
+                attributes = {node.attr for node in nodes(source, ast.Attribute)}
+                self.assertEqual(attributes - bound - METHODS, set())
+                self.assertEqual(set(re.findall(r"\w+", source)) & WORDS, set())
+
+    def test_the_top_of_a_file(self):
+        for name, source in sources().items():
+            with self.subTest(file=name):
+                top = ast.parse(source).body
+                self.assertEqual({type(node) for node in top[1:]} - {ast.Assign, ast.FunctionDef, ast.ClassDef}, set())
+                self.assertIsInstance(top[0], ast.Expr)
+                names = [node.targets[0].id for node in top if isinstance(node, ast.Assign)]
+                names += [node.name for node in top[1:] if not isinstance(node, ast.Assign)]
+                self.assertEqual(len(names), len(set(names)))
+                for node in top[1:]:
+                    if isinstance(node, ast.Assign):
+                        ast.literal_eval(node.value)
