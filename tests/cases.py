@@ -1,8 +1,9 @@
 """Lists of calls that look like chance but are the same each time."""
 
-from tests.helpers import begin, drop, get, place, put
+from tests.helpers import begin, drop, flush, get, nth, place, put, resize, sizes
 
 WRONG_MOST = (0, 65, 4294967295)
+WRONG_ROW = (0, 5, 4294967295)
 
 
 class Dice:
@@ -48,4 +49,38 @@ def mixed_with_begins(seed, count):
             calls.append(begin(WRONG_MOST[dice.below(3)]))
         else:
             calls.append(one_call(dice, keys, 1000 + at))
+    return calls
+
+
+def change(dice, limit):
+    """A call that changes most or empties the cache: mostly a resize, to a number up to a limit or to a wrong one."""
+    kind = dice.below(12)
+    if kind < 8:
+        return resize(1 + dice.below(limit))
+    if kind < 10:
+        return (resize if kind == 8 else begin)(WRONG_MOST[dice.below(3)])
+    return begin(1 + dice.below(limit)) if kind == 10 else flush()
+
+
+def question(dice, limit):
+    """A sizes, or an nth of a row that is there or, now and then, of one that isn't."""
+    kind = dice.below(8)
+    if kind < 3:
+        return sizes()
+    row = WRONG_ROW[dice.below(3)] if kind == 3 else 1 + dice.below(4)
+    return nth(row, 4294967295 if dice.below(12) == 0 else dice.below(limit))
+
+
+def all_nine(seed, limit, count):
+    """Calls of all nine numbers on a new object; most isn't set past a limit; each put has a value of its own."""
+    dice = Dice(seed)
+    calls = [begin(limit)] if dice.below(4) else []
+    while len(calls) < count:
+        kind = dice.below(24)
+        if kind == 0:
+            calls.append(change(dice, limit))
+        elif kind < 5:
+            calls.append(question(dice, limit))
+        else:
+            calls.append(one_call(dice, 2 * limit + 3, 1000 + len(calls)))
     return calls

@@ -31,6 +31,22 @@ def place(key):
     return (4, key)
 
 
+def nth(row, i):
+    return (5, row, i)
+
+
+def sizes():
+    return (6,)
+
+
+def resize(most):
+    return (7, most)
+
+
+def flush():
+    return (8,)
+
+
 def puts(*keys):
     return [put(key) for key in keys]
 
@@ -78,6 +94,33 @@ def places(calls, keys):
 def in_place(calls, keys, wanted):
     """Which of the keys stand in one place after the calls."""
     return [key for key, where in places(calls, keys).items() if where == wanted]
+
+
+def target(calls):
+    """The target after the calls, as sizes tells it."""
+    return last(list(calls) + [sizes()])[5]
+
+
+def row_keys(calls):
+    """The four rows after the calls, as sizes and nth tell them, each with its first key ahead."""
+    calls = list(calls)
+    lengths = last(calls + [sizes()])[1:5]
+    rows = []
+    for row, length in zip(ROWS, lengths):
+        told = ask(calls + [nth(row, i) for i in range(length + 1)])[len(calls):]
+        if [answer[0] for answer in told] != [1] * length + [0]:
+            raise AssertionError(f"nth of row {row} answers {told}, sizes {lengths}")
+        rows.append([answer[1] for answer in told[:length]])
+    return rows
+
+
+def shown(calls):
+    """All that can be asked after the calls: most, the four rows, the target, and the values that are held."""
+    calls = list(calls)
+    most, target_told = last(calls + [sizes()])[::5]
+    rows = row_keys(calls)
+    told = ask(calls + [get(key) for key in rows[0] + rows[1]])[len(calls):]
+    return most, rows, target_told, told
 
 
 def put_keys(calls):

@@ -102,8 +102,41 @@ class Reference:
     def place(self, key):
         return [self.where.get(key, NOT_KNOWN)]
 
+    def nth(self, row, i):
+        if row not in (RECENT, FREQUENT, LEFT_RECENT, LEFT_FREQUENT):
+            return [-1]
+        return ([[1, key] for key in self.row(row)][i:] + [[0]])[0]
+
+    def sizes(self):
+        lengths = [self.size(number) for number in (RECENT, FREQUENT, LEFT_RECENT, LEFT_FREQUENT)]
+        return [self.most, *lengths, self.target]
+
+    def resize(self, most):
+        if not 1 <= most <= 64:
+            return [-1]
+        self.most = most
+        if self.target > most:
+            self.target = most
+        answer = [0]
+        for turn in range(self.size(RECENT, FREQUENT) - most):
+            answer += self.one_goes(None)
+        self.keep(LEFT_RECENT, most - self.size(RECENT))
+        self.keep(LEFT_FREQUENT, 2 * most - self.size(RECENT, FREQUENT, LEFT_RECENT))
+        return answer
+
+    def keep(self, number, count):
+        """Of a row the first keys, so many, and no others."""
+        for key in self.row(number)[count:]:
+            self.forget(key)
+
+    def flush(self):
+        keys = (self.row(FREQUENT) + self.row(RECENT))[::-1]
+        answer = [len(keys)] + [number for key in keys for number in (key, self.value[key])]
+        self.start(self.most)
+        return answer
+
     def call(self, call):
-        named = (self.begin, self.get, self.put, self.drop, self.place)
+        named = (self.begin, self.get, self.put, self.drop, self.place, self.nth, self.sizes, self.resize, self.flush)
         return named[call[0]](*call[1:])
 
     def state(self):

@@ -1,6 +1,7 @@
 """The rules of LANGUAGE.md that can be seen in the package's files, as far as this program needs them."""
 
 import ast
+import builtins
 import re
 import unittest
 from pathlib import Path
@@ -32,6 +33,8 @@ WORDS = set("""
     NamedTuple TypedDict TYPE_CHECKING abstractmethod register mro elements open input version_info with_traceback
     add_note getattr setattr hasattr delattr globals locals vars dir eval exec compile super id
 """.split())
+
+PYTHONS_OWN = {name for kind in (str, int, list, tuple, dict, set, frozenset, bytes) for name in dir(kind)}
 
 TWO_UNDERSCORES = {"__init__", "__eq__", "__repr__", "__str__", "__len__"}
 
@@ -103,6 +106,46 @@ class Language(unittest.TestCase):
                 attributes = {node.attr for node in nodes(source, ast.Attribute)}
                 self.assertEqual(attributes - bound - METHODS, set())
                 self.assertEqual(set(re.findall(r"\w+", source)) & WORDS, set())
+
+    def test_words_and_signs_within_texts(self):
+        for name, source in sources().items():
+            with self.subTest(file=name):
+                for word in ("dataclass", "overload", "contextmanager"):
+                    self.assertNotIn(word, source)
+                for node in nodes(source, ast.Constant):
+                    self.assertNotIn("%", str(node.value))
+
+    def test_names_of_the_top_and_of_methods_have_one_meaning(self):
+        for name, source in sources().items():
+            with self.subTest(file=name):
+                top = {node.id for statement in ast.parse(source).body if isinstance(statement, ast.Assign)
+                       for node in statement.targets}
+                classes = {node.name for node in nodes(source, ast.ClassDef)}
+                within = {node.arg for node in nodes(source, ast.arg)}
+                for node in nodes(source, ast.FunctionDef):
+                    within |= {one.id for one in ast.walk(node) if isinstance(one, ast.Name)
+                               and isinstance(one.ctx, ast.Store)}
+                self.assertEqual(within & (top | classes | set(dir(builtins))), set())
+                methods = [node.name for owner in nodes(source, ast.ClassDef) for node in owner.body
+                           if isinstance(node, ast.FunctionDef)]
+                values = {node.attr for node in nodes(source, ast.Attribute) if isinstance(node.ctx, ast.Store)}
+                self.assertEqual(len(methods), len(set(methods)))
+                self.assertEqual(values & set(methods), set())
+                self.assertEqual((values | set(methods)) & PYTHONS_OWN - METHODS - TWO_UNDERSCORES, set())
+                self.assertEqual(values & METHODS, set())
+
+    def test_walks(self):
+        """What is only walked on the spot stands behind an `in` or straight within a call that walks it."""
+        for name, source in sources().items():
+            with self.subTest(file=name):
+                fine = [node.iter for node in nodes(source, ast.For, ast.comprehension)]
+                fine += [node.args[0] for node in nodes(source, ast.Call) if isinstance(node.func, ast.Name)
+                         and node.func.id in ("list", "tuple", "dict", "sorted", "sum", "any", "all") and node.args]
+                for node in nodes(source, ast.Call):
+                    called = node.func.id if isinstance(node.func, ast.Name) else node.func.attr
+                    if called in ("zip", "enumerate", "reversed", "range", "items", "keys", "values"):
+                        self.assertIn(ast.dump(node), [ast.dump(one) for one in fine])
+                    self.assertEqual(node.keywords, [])
 
     def test_the_top_of_a_file(self):
         for name, source in sources().items():

@@ -10,14 +10,23 @@ FREQUENT = 2
 LEFT_RECENT = 3
 LEFT_FREQUENT = 4
 
-# The numbers of the calls; what is none of these is place.
+# The numbers of the calls; what is none of these is flush.
 BEGIN = 0
 GET = 1
 PUT = 2
 DROP = 3
+PLACE = 4
+NTH = 5
+SIZES = 6
+RESIZE = 7
 
 # How many numbers each call takes up, its own number among them, by that number.
-CALL_LENGTHS = (2, 2, 3, 2, 2)
+CALL_LENGTHS = (2, 2, 3, 2, 2, 3, 1, 2, 1)
+
+
+def may_be_most(number):
+    """Tells whether so many entries may be allowed to be held."""
+    return number >= 1 and number <= LARGEST_MOST
 
 
 class Cache:
@@ -35,7 +44,7 @@ class Cache:
 
     def begin(self, most):
         """Starts anew with another most; what was held is not told."""
-        if most < 1 or most > LARGEST_MOST:
+        if not may_be_most(most):
             return [-1]
         self.most = most
         self.forget_all()
@@ -73,6 +82,41 @@ class Cache:
             if key in self.rows[place]:
                 return place
         return NOT_KNOWN
+
+    def nth(self, row, i):
+        """Answers 1 and the key at index i of a row, 0 behind its last, or -1 if there's no such row."""
+        if row not in self.rows:
+            return [-1]
+        keys = self.rows[row]
+        if i >= len(keys):
+            return [0]
+        return [1, keys[i]]
+
+    def sizes(self):
+        """Answers most, the lengths of the four rows and the target."""
+        return [self.most] + self.row_lengths() + [self.target]
+
+    def resize(self, most):
+        """Takes another most and lets go and forgets what is too much for it; answers 0 and what left."""
+        if not may_be_most(most):
+            return [-1]
+        self.most = most
+        self.target = min(self.target, most)
+        answer = [0]
+        while len(self.held) > most:
+            # Room is made for no key here, so for none that had left the frequent ones.
+            answer.extend(self.one_goes(NOT_KNOWN))
+        self.forget_surplus()
+        return answer
+
+    def flush(self):
+        """Empties the cache; answers how many entries were held, and these, as what left."""
+        answer = [len(self.held)]
+        for place in (RECENT, FREQUENT):
+            for key in reversed(self.rows[place]):
+                answer.extend([key, self.held[key]])
+        self.forget_all()
+        return answer
 
     def take_out(self, key):
         """Takes a known key out of its row."""
@@ -119,9 +163,21 @@ class Cache:
             self.rows[LEFT_FREQUENT].pop()
         return self.make_room(NOT_KNOWN)
 
+    def forget_surplus(self):
+        """Forgets the last keys that left, first the recent ones', till no more is known than may be."""
+        left_recent = self.rows[LEFT_RECENT]
+        while len(self.rows[RECENT]) + len(left_recent) > self.most:
+            left_recent.pop()
+        while self.count_known() > 2 * self.most:
+            self.rows[LEFT_FREQUENT].pop()
+
+    def row_lengths(self):
+        """Counts the keys of each row, in the order in which the rows are numbered."""
+        return [len(self.rows[place]) for place in (RECENT, FREQUENT, LEFT_RECENT, LEFT_FREQUENT)]
+
     def count_known(self):
         """Counts the keys of all four rows."""
-        return sum([len(row) for row in self.rows.values()])
+        return sum(self.row_lengths())
 
     def make_room(self, place):
         """Lets one entry go if most are held, for a key that comes from the place told."""
@@ -160,7 +216,15 @@ def answer_call(cache, call):
         return cache.put(call[1], call[2])
     if number == DROP:
         return cache.drop(call[1])
-    return [cache.place(call[1])]
+    if number == PLACE:
+        return [cache.place(call[1])]
+    if number == NTH:
+        return cache.nth(call[1], call[2])
+    if number == SIZES:
+        return cache.sizes()
+    if number == RESIZE:
+        return cache.resize(call[1])
+    return cache.flush()
 
 
 def answers(calls):
